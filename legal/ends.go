@@ -3,7 +3,6 @@ package legal
 import (
 	"slices"
 
-	"kibitzer/after"
 	"kibitzer/api"
 	"kibitzer/board"
 )
@@ -83,11 +82,11 @@ func atGoal(p api.Position) api.Result {
 	return going()
 }
 
-// blackComes: whether it is Black's turn, and a move that would be brings its king to the goal.
+// blackComes: whether it is Black's turn, and a move that would be brings its king to the goal. The move is asked for that, not the position behind it: there a second king of Black's may be the first one.
 func blackComes(p api.Position) bool {
+	king := board.Find(p, api.Black, api.King)
 	return p.Turn == api.Black && slices.ContainsFunc(wouldBe(p), func(m api.Move) bool {
-		behind, _ := after.Move(p, m)
-		return isAtGoal(behind, api.Black)
+		return int(m.From) == king && m.To >= goal
 	})
 }
 

@@ -96,6 +96,8 @@ func TestListOfVariants(t *testing.T) {
 	lists(t, []uint8{api.Racing}, "Ka8 kh7 rb2 black", "b2b1 b2c2 b2d2 b2e2 b2f2 b2g2 b2h2 b2b3 b2b4 b2b5 b2b6 b2b7 h7g6 h7h6 h7g7 h7g8 h7h8")
 	lists(t, []uint8{api.Racing}, "Ka8 kh7 rb2", "")
 	lists(t, []uint8{api.Racing}, "Ka8 kh8 rb2", "")
+	lists(t, []uint8{api.Racing}, "Kh8 ka7 kb7 black", "a7a6 a7b6 a7a8 a7b8 b7a6 b7b6 b7c6 b7c7 b7a8 b7b8 b7c8")
+	lists(t, []uint8{api.Racing}, "Kh8 ka6 kb7 black", "")
 	lists(t, []uint8{api.Atomic}, "Ke1 Qd1 re5 pd7 ke8", "d1e2 d1d7 e1f1 e1d2 e1f2")
 	lists(t, []uint8{api.Atomic}, "Qd1 ke8", "")
 	lists(t, []uint8{api.Atomic}, "Ke1 Pa2", "e1d1 e1f1 e1d2 e1e2 e1f2 a2a3 a2a4")

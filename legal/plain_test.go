@@ -281,7 +281,7 @@ func plainWon(p api.Position) api.Result {
 	return api.Result{}
 }
 
-// plainRace is the win of a position of Racing.
+// plainRace is the win of a position of Racing. Where Black has several kings, a move brings the first one to rank 7 if there is one less where it stood, and one more there.
 func plainRace(p api.Position, kings [2]int) api.Result {
 	switch {
 	case kings[0] < 56 && kings[1] < 56:
@@ -293,11 +293,22 @@ func plainRace(p api.Position, kings [2]int) api.Result {
 	}
 	for _, m := range plainWould(p) {
 		behind, _ := after.Move(p, m)
-		if p.Turn == 1 && plainKing(behind, 1) >= 56 {
+		if p.Turn == 1 && behind.Board[kings[1]] != 14 && kingsOnRank7(behind) > kingsOnRank7(p) {
 			return api.Result{}
 		}
 	}
 	return api.Result{State: 1, Why: api.ByKing}
+}
+
+// kingsOnRank7 is how many of Black's there are.
+func kingsOnRank7(p api.Position) int {
+	n := 0
+	for _, number := range p.Board[56:] {
+		if number == 14 {
+			n++
+		}
+	}
+	return n
 }
 
 // plainList are the moves that may be.

@@ -336,9 +336,60 @@ func TestRace(t *testing.T) {
 	won(t, api.Racing, "Kb1 kh8 ka1", going)
 	won(t, api.Racing, "Ka8 kd1 kh8 black", whiteKing)
 	won(t, api.Racing, "Ka8 kd7 kh8 black", going)
-	won(t, api.Racing, "Ka8 kd7 kh7 black", whiteKing)
+	won(t, api.Racing, "Ka8 kd7 kh7 black", going)
 	// White takes it, and the one that is the first then stands on rank 7: that is no move of Black's.
 	won(t, api.Racing, "Ka8 Rc5 kc1 kh8", whiteKing)
+}
+
+// Where Black has several kings, a move to rank 7 counts if it is one of the first of them, whichever is the first one behind it.
+func TestRaceWithASecondKing(t *testing.T) {
+	for texts, want := range map[string]api.Result{
+		"Kh8 ka7 kb7 black":         going,
+		"Kh8 ka7 kb7":               whiteKing,
+		"Ka8 kd7 kg7 black":         going,
+		"Ka8 kf7 ke8 black":         going,
+		"Kh8 ka7 ka8 black":         going,
+		"Kh8 ka7 kb7 Rc8 black":     going,
+		"Kh8 ka7 kb7 kd7 kf8 black": going,
+		// Another one alone comes to rank 7.
+		"Kh8 ka6 kb7 black":     whiteKing,
+		"Kd8 kg7 kh2 black":     whiteKing,
+		"Kh8 kc7 kg4 black":     whiteKing,
+		"Kh8 ka6 kb7 kc7 black": whiteKing,
+		"Kh8 ka7 kb7 kd5 black": whiteKing,
+		// Behind each of its moves there the second one is in check, or gives it.
+		"Kh8 ka7 kb7 Rb1 black":     whiteKing,
+		"Kh8 ka7 kb7 Bh1 black":     whiteKing,
+		"Kh8 ka7 kc7 Rc1 black":     whiteKing,
+		"Kh8 kc7 kg7 black":         whiteKing,
+		"Kh8 ka7 kb7 Ra1 Rb1 black": whiteKing,
+		// Only the first one is in check, and leaves it.
+		"Kh8 ka7 kb7 Ra1 black": going,
+		// Its squares there are full of Black's; on one of them stands a piece of White's.
+		"Kh8 ka7 kb7 ra8 rb8 black":     whiteKing,
+		"Kh8 ka7 kb7 ra8 Nb8 black":     going,
+		"Kh8 ka7 kb7 ra8 Nb8 Qb1 black": whiteKing,
+	} {
+		won(t, api.Racing, texts, want)
+	}
+}
+
+// Every two squares of Black's kings on the ranks near the goal, with White's men and without.
+func TestRaceOfTwoKings(t *testing.T) {
+	for first := 32; first < 64; first++ {
+		for second := first + 1; second < 64; second++ {
+			for _, texts := range []string{"", "Rc1", "Rc1 Be2 rg8"} {
+				for _, white := range []string{"Ka8 ", "Kf8 ", "Kf7 "} {
+					p := placed(api.Racing, white+texts+" black")
+					if p.Board[first] != 0 || p.Board[second] != 0 {
+						continue
+					}
+					p.Board[first], p.Board[second] = 14, 14
+					checkWon(t, "two kings", p)
+				}
+			}
+		}
+	}
 }
 
 // Every two squares of kings, with a rook of White's and without, Turn White and Black.
